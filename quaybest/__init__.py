@@ -1,0 +1,1 @@
+"""Quaybest: the office of a container terminal."""

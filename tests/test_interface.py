@@ -1,0 +1,111 @@
+"""The names, arguments and errors of the interface, and where they stand."""
+
+import importlib
+import inspect
+
+from quaybest.errors import QuayError
+from support import Case
+
+# For each module: its functions and classes with their parameters, and its methods.
+CALLS = {
+    "codes": {
+        "remainder": "body", "with_check_digit": "body", "is_assignable": "code", "parse": "text",
+        "substitutions": "code", "transpositions": "code", "undetected_pairs": "position"},
+    "ranks": {
+        "rank": "code", "nth": "prefix, number", "matches": "pattern, *, most=50", "to_ranges": "codes",
+        "expand_ranges": "ranges"},
+    "allocator": {
+        "Allocator": "code", "Allocator.issue": "count", "Allocator.revoke": "code", "Allocator.undo": "",
+        "Allocator.status": "code", "Allocator.ranges": ""},
+    "fractions": {
+        "fraction": "number, divisor=1", "added": "first, second", "subtracted": "first, second",
+        "multiplied": "first, second", "divided": "first, second", "is_less": "first, second",
+        "common_divisor": "first, second"},
+    "intervals": {
+        "intersection": "first, second", "union": "first, second", "difference": "first, second",
+        "eroded": "rows, length", "dilated": "rows, length"},
+    "tides": {
+        "level": "tide, minute", "minutes_at_least": "tide, least", "passable_starts": "tide, sills, draught",
+        "deepest_draught": "tide, sills, start", "deepest_draught_in": "tide, sills, start, stop"},
+    "channel": {
+        "Channel": "tide, sills, headway", "Channel.book": "draught, direction, start", "Channel.cancel": "number",
+        "Channel.bookings": ""},
+    "berths": {
+        "starts": "ships", "critical_chain": "ships, number", "slack": "ships, number",
+        "delay_effect": "ships, number, by", "stay_effect": "ships, number, by",
+        "free_bollards": "bollards, ships, minute", "conflicts": "ships, plan", "waiting": "ships, plan",
+        "compacted": "ships, plan", "best_order": "ships"},
+    "quays": {
+        "Quay": "bollards", "Quay.arrive": "ship", "Quay.delay": "number, by", "Quay.prolong": "number, by",
+        "Quay.ships": "", "Quay.starts": "", "Quay.critical_chain": "number", "Quay.free_bollards": "minute",
+        "Quay.undo": ""},
+    "pipeline": {
+        "normalize": "sequence", "push_a": "pipe, load", "push_b": "pipe, load", "purge": "pipe, product",
+        "arrival": "pipe, batch", "separate": "sequence, mixing", "slop_of": "sequence, mixing",
+        "best_sequence": "batches, mixing"},
+    "manifolds": {
+        "Manifold": "pipe, tanks", "Manifold.pipe": "", "Manifold.tanks": "", "Manifold.open_tanks": "",
+        "Manifold.open_at": "end, tank", "Manifold.pump": "tank, end, amount", "Manifold.drain": "tank",
+        "Manifold.undo": ""},
+    "stability": {
+        "Hull": "lightship, curve, tanks, *, height, heel, trim", "totals": "loads",
+        "displacement": "curve, draught", "draught_at": "curve, weight", "metacentric_height": "hull, loads, fills",
+        "heel": "hull, loads, fills", "trim": "hull, loads, fills", "violations": "hull, loads, fills",
+        "least_ballast": "hull, loads", "loading_order": "hull, loads, fills"}}
+# For each module: its errors, with their attributes.
+ERRORS = {
+    "codes": {"BadCode": "reason, position", "BadText": "position", "WrongDigit": "digit"},
+    "ranks": {"NoCode": "", "BadRange": "number, reason"},
+    "allocator": {"AllocatorError": ""},
+    "intervals": {"BadIntervals": "number", "TooLate": ""},
+    "tides": {"BadTide": "number", "BadSills": "number"},
+    "channel": {"NoBooking": "", "BookingCancelled": "", "TooManyBookings": ""},
+    "berths": {"TooEarly": "ship", "Overlapping": "ships"},
+    "quays": {"BadShip": "reason", "NoShip": "", "QuayFull": "", "NothingToUndo": ""},
+    "manifolds": {"BadTanks": "tank", "NoTank": "", "TooLittle": "", "NoneOpen": "", "TwoProducts": "",
+                  "Overflow": "", "NothingToUndo": ""}}
+
+
+def module_of(name):
+    return importlib.import_module("quaybest." + name)
+
+
+def parameters(call):
+    return str(inspect.signature(call))[1:-1]
+
+
+class InterfaceTest(Case):
+    """Every name stands in its file, with its arguments."""
+
+    def test_functions_and_methods(self):
+        for name, calls in CALLS.items():
+            module = module_of(name)
+            for word, wanted in calls.items():
+                owner, _, method = word.partition(".")
+                found = vars(module)[owner]
+                self.assertEqual(found.__module__, "quaybest." + name)
+                if method:
+                    self.assertEqual(parameters(vars(found)[method]).partition("self")[2].lstrip(", "), wanted, word)
+                else:
+                    self.assertEqual(parameters(found), wanted, word)
+
+    def test_errors(self):
+        for name, errors in ERRORS.items():
+            for word, attributes in errors.items():
+                error = vars(module_of(name))[word]
+                self.assertEqual(error.__module__, "quaybest." + name)
+                self.assertEqual(error.__bases__, (QuayError,))
+                if attributes:
+                    self.assertEqual(parameters(error), attributes, word)
+                else:
+                    self.assertNotIn("__init__", vars(error))
+
+    def test_errors_of_the_allocator(self):
+        module = module_of("allocator")
+        for word in ("BadCount", "LimitReached", "NotEnough", "NotIssued", "NothingToUndo"):
+            self.assertEqual(vars(module)[word].__bases__, (module.AllocatorError,))
+            self.assertEqual(vars(module)[word].__module__, "quaybest.allocator")
+
+    def test_base_of_all_errors(self):
+        self.assertEqual(QuayError.__bases__, (ValueError,))
+        self.assertEqual(QuayError.__module__, "quaybest.errors")

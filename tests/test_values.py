@@ -1,0 +1,98 @@
+"""[0.1] to [0.3]: whole numbers, lists and tuples, and arguments that stay as they are."""
+
+import copy
+import inspect
+
+from quaybest import allocator, berths, codes, fractions, intervals, pipeline, ranks, stability, tides
+from quaybest.channel import Channel
+from quaybest.manifolds import Manifold
+from quaybest.quays import Quay
+from support import Case, listed, tupled
+
+CODE = "CSQU3054383"
+TIDE = [[0, 0], [360, 600], [720, 60]]
+SILLS = [[0, 100], [30, 50]]
+SHIPS = [[0, 4, 0, 10], [3, 3, 2, 5], [6, 4, 1, 8], [5, 2, 4, 6], [0, 2, 30, 5]]
+PLAN = [0, 10, 1, 15, 30]
+PIPE = [[1, 3], [1, 1], [2, 2]]
+MIXING = [[0 if p == q else 1 for q in range(8)] for p in range(8)]
+CURVE = [[2, 100, 14], [4, 200, 12], [6, 320, 12]]
+HULL = stability.Hull([100, 0, 0, 10], CURVE, [[20, 10, 0, 2, 30], [20, -10, 0, 2, 30]], height=1, heel=100, trim=5)
+LOADS = [[50, 0, 0, 10], [10, 1, 0, 10]]
+ROWS = [[0, 3], [6, 9]]
+
+# Calls of all functions that take lists or tuples, or return tuples.
+CALLS = [
+    (codes.substitutions, CODE), (codes.transpositions, CODE), (codes.undetected_pairs, 0), (ranks.matches, "CSQU30543??"),
+    (ranks.to_ranges, [CODE]), (ranks.expand_ranges, [[CODE, CODE]]), (fractions.fraction, 4, 6),
+    (fractions.added, [1, 2], [1, 3]), (fractions.subtracted, [1, 2], [1, 3]), (fractions.multiplied, [1, 2], [1, 3]),
+    (fractions.divided, [1, 2], [1, 3]), (fractions.is_less, [1, 3], [1, 2]), (intervals.intersection, ROWS, ROWS),
+    (intervals.union, ROWS, [[4, 4]]), (intervals.difference, ROWS, [[1, 1]]), (intervals.eroded, ROWS, 2),
+    (intervals.dilated, ROWS, 3), (tides.level, TIDE, 31), (tides.minutes_at_least, TIDE, 300),
+    (tides.passable_starts, TIDE, SILLS, 300), (tides.deepest_draught, TIDE, SILLS, 100),
+    (tides.deepest_draught_in, TIDE, SILLS, 0, 99), (berths.starts, SHIPS), (berths.critical_chain, SHIPS, 3),
+    (berths.slack, SHIPS, 1), (berths.delay_effect, SHIPS, 0, 3), (berths.stay_effect, SHIPS, 0, 3),
+    (berths.free_bollards, 12, SHIPS, 3), (berths.conflicts, SHIPS, [0, 0, 0, 0, 0]), (berths.waiting, SHIPS, PLAN),
+    (berths.compacted, SHIPS, PLAN), (berths.best_order, SHIPS), (pipeline.normalize, PIPE),
+    (pipeline.push_a, PIPE, [[3, 4], [4, 1]]), (pipeline.push_b, PIPE, [[3, 4], [4, 1]]), (pipeline.purge, PIPE, 1),
+    (pipeline.arrival, PIPE, 0), (pipeline.separate, PIPE, MIXING), (pipeline.slop_of, PIPE, MIXING),
+    (pipeline.best_sequence, PIPE, MIXING), (stability.totals, LOADS), (stability.displacement, CURVE, 3),
+    (stability.draught_at, CURVE, 111), (stability.metacentric_height, HULL, LOADS, [3, 0]),
+    (stability.heel, HULL, LOADS, [3, 0]), (stability.trim, HULL, LOADS, [3, 0]),
+    (stability.violations, HULL, [[50, 99, 9, 10]], [3, 0]), (stability.least_ballast, HULL, LOADS),
+    (stability.loading_order, HULL, LOADS, [3, 0])]
+
+
+def is_plain(value):
+    """True for integers, strings, truth values and None, and for tuples of such."""
+    if value.__class__ is tuple:
+        return all(is_plain(item) for item in value)
+    return value is None or value.__class__ in (int, str, bool)
+
+
+class ValuesTest(Case):
+    """[0.1], [0.3]: what is passed and what is returned."""
+
+    def test_every_function_is_called_here(self):
+        called = {call[0] for call in CALLS} | {codes.remainder, codes.with_check_digit, codes.is_assignable, codes.parse,
+                                                ranks.rank, ranks.nth, fractions.common_divisor}
+        from test_interface import CALLS as LISTED
+        for module in (codes, ranks, fractions, intervals, tides, berths, pipeline, stability, allocator):
+            for word in LISTED[module.__name__.partition(".")[2]]:
+                value = vars(module).get(word)
+                if inspect.isfunction(value):
+                    self.assertIn(value, called)
+
+    def test_lists_and_tuples_stand_for_one_another(self):
+        for call, *args in CALLS:
+            self.same(call(*listed(args)), call(*tupled(args)))
+
+    def test_arguments_are_not_changed(self):
+        for call, *args in CALLS:
+            given = [arg if arg is HULL else copy.deepcopy(arg) for arg in args]
+            call(*given)
+            self.assertEqual(given, args)
+
+    def test_tuples_of_whole_numbers_are_returned(self):
+        for call, *args in CALLS:
+            self.assertTrue(is_plain(call(*listed(args))), call)
+
+    def test_classes_take_lists_and_tuples(self):
+        for form in (listed, tupled):
+            channel = Channel(form(TIDE), form(SILLS), 5)
+            channel.book(300, "out", 0)
+            quay = Quay(12)
+            for ship in SHIPS:
+                quay.arrive(form(ship))
+            manifold = Manifold(form(PIPE), form([[1, 2, 3], [2, 0, 5]]))
+            hull = stability.Hull(form([100, 0, 0, 10]), form(CURVE), form([[20, 10, 0, 2, 30]]), height=1, heel=1, trim=1)
+            for found in (channel.bookings(), quay.ships(), quay.starts(), quay.delay(0, 3), quay.critical_chain(3),
+                          quay.free_bollards(3), manifold.pipe(), manifold.tanks(), manifold.open_tanks(),
+                          (hull.lightship, hull.curve, hull.tanks)):
+                self.assertTrue(is_plain(found))
+            self.assertEqual(quay.ships()[1:], tupled(SHIPS)[1:])
+            self.assertEqual(hull.curve, tupled(CURVE))
+
+    def test_the_allocator_returns_tuples(self):
+        office = allocator.Allocator(CODE)
+        self.assertTrue(is_plain((office.issue(3), office.revoke(CODE), office.ranges(), office.undo())))
