@@ -82,9 +82,9 @@ class Channel:
     def _blocked(self, direction):
         """Pairs of the first and the last start that an active booking keeps from a direction."""
         blocked = []
-        for _, _, way, start in self._active:
-            if way != direction:
-                blocked.append((start - self._length, start + self._length))
-            elif self._headway > 0:
-                blocked.append((start - self._headway + 1, start + self._headway - 1))
+        for row in self._active:
+            # Two of one direction may be just the headway apart (with headway 0 the pair is empty);
+            # of two directions the one must have left the channel.
+            kept = self._headway - 1 if row[2] == direction else self._length
+            blocked.append((row[3] - kept, row[3] + kept))
         return blocked

@@ -132,8 +132,8 @@ def transpositions(code):
     found = []
     for position in range(10):
         changed = code[:position] + code[position + 1] + code[position] + code[position + 2:]
-        # Behind position 3 a letter and a digit are neighbours: these are not of one kind.
-        if position != 3 and changed != code and changed[3] in allowed_at(3) and has_right_digit(changed):
+        # A digit at position 3, or another letter than J, U and Z, makes no code.
+        if changed != code and changed[3] in allowed_at(3) and has_right_digit(changed):
             found.append(changed)
     return tuple(found)
 

@@ -28,7 +28,7 @@ def counts_with_digit(behind, weight):
 def ending_counts():
     """For each position from 4 to 10, how many endings of a body from there on have each remainder."""
     counts = {10: [1] + [0] * 10}
-    for position in reversed(range(4, 10)):
+    for position in (9, 8, 7, 6, 5, 4):
         counts[position] = counts_with_digit(counts[position + 1], WEIGHTS[position])
     return counts
 

@@ -58,10 +58,10 @@ def slack_sum(hull, fills):
 
 def height_of(hull, total, slacks):
     """The metacentric height for totals and slacks; None off the curve."""
-    weight, _, _, upward = total
+    weight = total[0]
     if weight < hull.curve[0][1] or weight > hull.curve[-1][1]:
         return None
-    return subtracted(interpolated(hull.curve, 1, 2, weight), fraction(upward + slacks, weight))
+    return subtracted(interpolated(hull.curve, 1, 2, weight), fraction(total[3] + slacks, weight))
 
 
 def heel_of(total, height):
@@ -145,7 +145,7 @@ def completable(hull, loads, fills):
     """For each mask of loads: True if the ship is stable with them, and some order goes on to all loads."""
     full = (1 << len(loads)) - 1
     found = [False] * (full + 1)
-    for mask in reversed(range(full + 1)):
+    for mask in range(full, -1, -1):
         onward = mask == full or any([found[mask | (1 << number)] for number in range(len(loads))
                                       if not mask & (1 << number)])
         found[mask] = onward and not violations(hull, loads_of(loads, mask), fills)

@@ -159,6 +159,11 @@ class ParseTest(Case):
                                ("CSQX3054383", 3), ("-CSQU3054383", 0), ("\tCSQU3054383", 0), (" CSQU\u0661", 5)):
             self.refused(BadText, parse, text, told={"position": position})
 
+    def test_other_separators(self):
+        for other in "xX_./+\t\n?":
+            self.refused(BadText, parse, "CSQU" + other + "3054383", told={"position": 4})
+            self.refused(BadText, parse, "CSQU305438" + other + "3", told={"position": 10})
+
     def test_wrong_digit(self):
         for body in some_bodies(4, 30):
             right = told_remainder(body) % 10

@@ -150,6 +150,17 @@ class RangesTest(Case):
         self.same(to_ranges([other[0], one[-1], other[1], one[-2]]), ((one[-2], one[-1]), (other[0], other[1])))
         self.same(to_ranges([other[5], one[4]]), ((one[4], one[4]), (other[5], other[5])))
 
+    def test_two_prefixes_with_ranks_that_follow_one_another(self):
+        one, other = nth("CSQJ", 4), CODES["CSQU"][5]
+        self.same(to_ranges([one, other]), ((one, one), (other, other)))
+
+    def test_over_each_digit(self):
+        codes = CODES["CSQU"]
+        for turn in ("CSQU100000", "CSQU110000", "CSQU111000", "CSQU111100", "CSQU111110"):
+            place = bisect.bisect(codes, turn)
+            self.same(to_ranges(codes[place - 2:place + 2]), ((codes[place - 2], codes[place + 1]),))
+            self.same(expand_ranges([(codes[place - 2], codes[place + 1])]), tuple(codes[place - 2:place + 2]))
+
     def test_over_a_code_that_is_not_assignable(self):
         codes = CODES["CSQU"]
         number = next(k for k in range(100) if int(codes[k + 1][4:10]) - int(codes[k][4:10]) == 2)

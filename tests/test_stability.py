@@ -187,6 +187,8 @@ class ShipTest(Case):
         self.same(violations(example_hull(heel=250), [aside], (0, 0)), ())
         self.same(violations(example_hull(heel=249), [aside], (0, 0)), ("heel",))
         self.same(violations(example_hull(heel=249), [(100, 0, -1, 10)], (0, 0)), ("heel",))
+        self.same(violations(example_hull(heel=1000), [(100, 0, 4, 10)], (0, 0)), ())
+        self.same(violations(example_hull(heel=999), [(100, 0, 4, 10)], (0, 0)), ("heel",))
 
     def test_no_heel_without_height(self):
         hull = example_hull(trim=1)

@@ -177,6 +177,14 @@ class PassageTest(Case):
     def test_no_start_in_an_empty_window(self):
         self.assertIsNone(deepest_draught_in(((0, 0), (9, 9)), ((0, 5),), 5, 4))
 
+    def test_first_of_several_starts(self):
+        tide = ((0, 0), (60, 600), (120, 0), (180, 600), (240, 0), (300, 601))
+        self.same(deepest_draught_in(tide, ((0, 100),), 0, 240), (700, 60))
+        self.same(deepest_draught_in(tide, ((0, 100),), 61, 240), (700, 180))
+        self.same(deepest_draught_in(tide, ((0, 100),), 0, 300), (701, 300))
+        flat = ((0, 600), (60, 600), (120, 0), (180, 600))
+        self.same(deepest_draught_in(flat, ((0, 100),), 7, 240), (700, 7))
+
     def test_levels_are_not_rounded_up(self):
         tide = ((0, 0), (7, -12))
         self.same(deepest_draught(tide, ((0, 10),), 1), 9)
