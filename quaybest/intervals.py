@@ -56,16 +56,16 @@ def common(first, second):
     return tuple(found)
 
 
-def complement(rows):
-    """All minutes that a set of minutes does not contain."""
+def complement(rows, last):
+    """All minutes from 0 to a last one that a set of minutes does not contain."""
     found = []
     least = 0
-    for start, stop in rows:
+    for start, stop in common(rows, ((0, last),)):
         if least < start:
             found.append((least, start - 1))
         least = stop + 1
-    if least <= LAST_MINUTE:
-        found.append((least, LAST_MINUTE))
+    if least <= last:
+        found.append((least, last))
     return tuple(found)
 
 
@@ -87,7 +87,7 @@ def difference(first, second):
     """The minutes that the first one contains and the second one does not."""
     check_intervals(first)
     check_intervals(second)
-    return common(first, complement(second))
+    return common(first, complement(second, LAST_MINUTE))
 
 
 def eroded(rows, length):

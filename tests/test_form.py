@@ -16,7 +16,7 @@ EXPRESSIONS = """BoolOp BinOp UnaryOp IfExp Dict ListComp Compare Call Constant 
     Tuple Slice And Or Add Sub Mult Mod FloorDiv LShift BitOr BitAnd Not USub Eq NotEq Lt LtE Gt GtE Is IsNot In NotIn
     comprehension arguments arg keyword alias Load Store Del""".split()
 CALLED = """len range enumerate min max sum abs sorted reversed int str list tuple set any all zip""".split()
-METHODS = "append count find items pop".split()
+METHODS = "append count extend find items pop".split()
 WORDS = r"\b(type|typing|enum|Enum|Flag|Generic|Protocol|ABC|namedtuple)\b|dataclass|overload|contextmanager"
 NAMES = "elements register mro open input law add_note args format hex encode decode".split()
 
