@@ -51,7 +51,33 @@ CALLS = {
         "Hull": "lightship, curve, tanks, *, height, heel, trim", "totals": "loads",
         "displacement": "curve, draught", "draught_at": "curve, weight", "metacentric_height": "hull, loads, fills",
         "heel": "hull, loads, fills", "trim": "hull, loads, fills", "violations": "hull, loads, fills",
-        "least_ballast": "hull, loads", "loading_order": "hull, loads, fills"}}
+        "least_ballast": "hull, loads", "loading_order": "hull, loads, fills"},
+    "vessels": {
+        "Vessel": "hull", "Vessel.load": "load", "Vessel.unload": "number", "Vessel.shift": "number, place",
+        "Vessel.fill": "tank, amount", "Vessel.undo": "", "Vessel.loads": "", "Vessel.fills": "", "Vessel.weight": "",
+        "Vessel.draught": ""},
+    "stowage": {
+        "simulated": "boxes, plan", "shift_count": "boxes, plan", "stacks_after": "boxes, plan, port",
+        "lifted_at": "boxes, plan, port", "crossings": "boxes", "shift_free_plan": "boxes, stacks",
+        "fewest_shifts": "boxes, stacks, height", "largest_clique": "boxes", "shortest_odd_cycle": "boxes",
+        "turned_round": "boxes"},
+    "voyages": {
+        "Voyage": "stacks, height", "Voyage.load": "loads", "Voyage.sail": "", "Voyage.stacks": "",
+        "Voyage.lift_counts": ""},
+    "lashing": {
+        "Gear": "*, joint, rod, reach, rods, weight, post", "forces": "stack, acceleration",
+        "violations": "stack, gear, rods, acceleration", "min_rods": "stack, gear, acceleration",
+        "max_acceleration": "stack, gear, rods", "max_top_weight": "stack, gear, rods, acceleration"},
+    "moments": {"moment": "boxes", "min_moment_order": "boxes", "distribute": "boxes, stacks"},
+    "deck": {
+        "Deck": "gear, acceleration, stacks, rods", "Deck.add": "stack, weight", "Deck.drop": "stack",
+        "Deck.lash": "stack, tier, count", "Deck.unlash": "stack, tier, count", "Deck.relash": "stack",
+        "Deck.set_acceleration": "acceleration", "Deck.max_acceleration": "", "Deck.stacks": ""},
+    "segregation": {
+        "apart": "table, first, second", "violations": "table, row", "pack": "table, classes",
+        "critical_chain": "table, classes, box", "shortest_row": "table, classes", "triangle_violation": "table",
+        "allowed_positions": "table, row, kind, length", "min_holds": "table, classes, degree",
+        "largest_conflict_set": "table, classes, degree"}}
 # For each module: its errors, with their attributes.
 ERRORS = {
     "codes": {"BadCode": "reason, position", "BadText": "position", "WrongDigit": "digit"},
@@ -63,7 +89,13 @@ ERRORS = {
     "berths": {"TooEarly": "ship", "Overlapping": "ships"},
     "quays": {"BadShip": "reason", "NoShip": "", "QuayFull": "", "NothingToUndo": ""},
     "manifolds": {"BadTanks": "tank", "NoTank": "", "TooLittle": "", "NoneOpen": "", "TwoProducts": "",
-                  "Overflow": "", "NothingToUndo": ""}}
+                  "Overflow": "", "NothingToUndo": ""},
+    "vessels": {"NotStable": "words", "NoLoad": "", "NoTank": "", "BadFill": "", "TooManyLoads": "", "NoChange": ""},
+    "voyages": {"VoyageOver": "", "TooManyBoxes": "", "BadStack": "box", "StackFull": "stack"},
+    "lashing": {"BadGear": "name", "BadStack": "number", "BadRods": "number"},
+    "moments": {"BadBoxes": "number"},
+    "deck": {"NoStack": "", "NoBox": "", "StackFull": "", "StackEmpty": "", "NoReach": "", "TooManyRods": "",
+             "TooFewRods": "", "WouldNotHold": "stack"}}
 
 
 def module_of(name):

@@ -3,10 +3,14 @@
 import copy
 import inspect
 
-from quaybest import allocator, berths, codes, fractions, intervals, pipeline, ranks, stability, tides
+from quaybest import (allocator, berths, codes, fractions, intervals, lashing, moments, pipeline, ranks, segregation,
+                      stability, stowage, tides)
 from quaybest.channel import Channel
+from quaybest.deck import Deck
 from quaybest.manifolds import Manifold
 from quaybest.quays import Quay
+from quaybest.vessels import Vessel
+from quaybest.voyages import Voyage
 from support import Case, listed, tupled
 
 CODE = "CSQU3054383"
@@ -20,6 +24,12 @@ CURVE = [[2, 100, 14], [4, 200, 12], [6, 320, 12]]
 HULL = stability.Hull([100, 0, 0, 10], CURVE, [[20, 10, 0, 2, 30], [20, -10, 0, 2, 30]], height=1, heel=100, trim=5)
 LOADS = [[50, 0, 0, 10], [10, 1, 0, 10]]
 ROWS = [[0, 3], [6, 9]]
+BOXES = [[0, 3], [1, 4], [2, 5]]
+GEAR = lashing.Gear(joint=900, rod=100, reach=9, rods=4, weight=3600, post=3600)
+STACK = [5, 4, 3]
+TALL = [[10, 2], [10, 3], [4, 1]]
+TABLE = [[[0, 1, 2], [1, 0, 3], [2, 3, 1]], [0, 2, 3, 7]]
+KINDS = [0, 1, 2, 0]
 
 # Calls of all functions that take lists or tuples, or return tuples.
 CALLS = [
@@ -40,7 +50,20 @@ CALLS = [
     (stability.draught_at, CURVE, 111), (stability.metacentric_height, HULL, LOADS, [3, 0]),
     (stability.heel, HULL, LOADS, [3, 0]), (stability.trim, HULL, LOADS, [3, 0]),
     (stability.violations, HULL, [[50, 99, 9, 10]], [3, 0]), (stability.least_ballast, HULL, LOADS),
-    (stability.loading_order, HULL, LOADS, [3, 0])]
+    (stability.loading_order, HULL, LOADS, [3, 0]), (stowage.simulated, BOXES, [0, 0, 0]),
+    (stowage.shift_count, BOXES, [0, 0, 0]), (stowage.stacks_after, BOXES, [0, 1, 0], 2),
+    (stowage.lifted_at, BOXES, [0, 0, 0], 3), (stowage.crossings, BOXES), (stowage.shift_free_plan, BOXES, 3),
+    (stowage.fewest_shifts, BOXES, 2, 9), (stowage.largest_clique, BOXES), (stowage.shortest_odd_cycle, BOXES),
+    (stowage.turned_round, BOXES), (lashing.forces, STACK, 100), (lashing.violations, STACK, GEAR, [0, 2, 0], 100),
+    (lashing.min_rods, STACK, GEAR, 100), (lashing.max_acceleration, STACK, GEAR, [0, 2, 0]),
+    (lashing.max_top_weight, STACK, GEAR, [0, 2, 0], 5), (moments.moment, TALL), (moments.min_moment_order, TALL),
+    (moments.distribute, TALL, 2), (segregation.apart, TABLE, 0, 1),
+    (segregation.violations, TABLE, [[0, 0], [1, 1], [2, 2]]), (segregation.pack, TABLE, KINDS),
+    (segregation.critical_chain, TABLE, KINDS, 3), (segregation.shortest_row, TABLE, KINDS),
+    (segregation.triangle_violation, TABLE), (segregation.allowed_positions, TABLE, [[0, 4], [1, 9]], 2, 30),
+    (segregation.min_holds, TABLE, KINDS, 1), (segregation.largest_conflict_set, TABLE, KINDS, 1)]
+# What stands for itself among the arguments.
+OBJECTS = (HULL, GEAR)
 
 
 def is_plain(value):
@@ -57,7 +80,8 @@ class ValuesTest(Case):
         called = {call[0] for call in CALLS} | {codes.remainder, codes.with_check_digit, codes.is_assignable, codes.parse,
                                                 ranks.rank, ranks.nth, fractions.common_divisor}
         from test_interface import CALLS as LISTED
-        for module in (codes, ranks, fractions, intervals, tides, berths, pipeline, stability, allocator):
+        for module in (codes, ranks, fractions, intervals, tides, berths, pipeline, stability, allocator, stowage, lashing,
+                       moments, segregation):
             for word in LISTED[module.__name__.partition(".")[2]]:
                 value = vars(module).get(word)
                 if inspect.isfunction(value):
@@ -69,7 +93,7 @@ class ValuesTest(Case):
 
     def test_arguments_are_not_changed(self):
         for call, *args in CALLS:
-            given = [arg if arg is HULL else copy.deepcopy(arg) for arg in args]
+            given = [arg if arg in OBJECTS else copy.deepcopy(arg) for arg in args]
             call(*given)
             self.assertEqual(given, args)
 
@@ -96,3 +120,15 @@ class ValuesTest(Case):
     def test_the_allocator_returns_tuples(self):
         office = allocator.Allocator(CODE)
         self.assertTrue(is_plain((office.issue(3), office.revoke(CODE), office.ranges(), office.undo())))
+
+    def test_ships_take_lists_and_tuples(self):
+        for form in (listed, tupled):
+            vessel = Vessel(HULL)
+            found = [vessel.load(form(load)) for load in LOADS] + [vessel.shift(0, form([1, 0, 9])), vessel.unload(0)]
+            self.assertTrue(is_plain((*found, vessel.loads(), vessel.fills())))
+            voyage = Voyage(2, 9)
+            found = (voyage.load(form([[0, 1], [1, 3], [0, 2]])), voyage.sail(), voyage.stacks(), voyage.lift_counts())
+            self.assertTrue(is_plain(found))
+            deck = Deck(GEAR, 5, 2, 9)
+            deck.add(0, 4)
+            self.assertTrue(is_plain(deck.stacks()))
