@@ -9,14 +9,14 @@ import warnings
 from support import Case
 
 FOLDER = os.path.join(os.path.dirname(os.path.abspath(__file__)), os.pardir, "quaybest")
-LIBRARY = {("math", "gcd"), ("itertools", "permutations")}
+LIBRARY = {("math", "gcd"), ("itertools", "combinations"), ("itertools", "permutations")}
 STATEMENTS = """Module FunctionDef ClassDef Return Assign AugAssign For While If Raise Expr Pass Break Continue
     ImportFrom Delete""".split()
-EXPRESSIONS = """BoolOp BinOp UnaryOp IfExp Dict ListComp Compare Call Constant Attribute Subscript Starred Name List
-    Tuple Slice And Or Add Sub Mult Mod FloorDiv LShift BitOr BitAnd Not USub Eq NotEq Lt LtE Gt GtE Is IsNot In NotIn
-    comprehension arguments arg keyword alias Load Store Del""".split()
+EXPRESSIONS = """BoolOp BinOp UnaryOp IfExp Dict ListComp DictComp Compare Call Constant Attribute Subscript Starred
+    Name List Tuple Slice And Or Add Sub Mult Mod FloorDiv LShift BitOr BitAnd Not USub Eq NotEq Lt LtE Gt GtE Is
+    IsNot In NotIn comprehension arguments arg keyword alias Load Store Del""".split()
 CALLED = """len range enumerate min max sum abs sorted reversed int str list tuple set any all zip""".split()
-METHODS = "append count extend find items pop".split()
+METHODS = "append count extend find get index items pop".split()
 WORDS = r"\b(type|typing|enum|Enum|Flag|Generic|Protocol|ABC|namedtuple)\b|dataclass|overload|contextmanager"
 NAMES = "elements register mro open input law add_note args format hex encode decode".split()
 
@@ -136,6 +136,13 @@ class FormTest(Case):
         for name, text in files():
             for match in re.finditer(r"(\S+) (?:enumerate|zip|reversed)\(", text):
                 self.assertEqual(match.group(1), "in", name)
+
+    def test_library_calls_are_iterated_on_the_spot(self):
+        iterated = [node.iter for kind in (ast.For, ast.comprehension) for _, node in nodes(kind)]
+        places = {(name, node.lineno, node.col_offset) for name, node in nodes(ast.Call)
+                  if isinstance(node.func, ast.Name) and node.func.id in ("combinations", "permutations")}
+        self.assertEqual(len(places), len([node for node in iterated if isinstance(node, ast.Call) and
+                                           getattr(node.func, "id", "") in ("combinations", "permutations")]))
 
     def test_strings_and_words(self):
         for name, text in files():
