@@ -77,7 +77,35 @@ CALLS = {
         "apart": "table, first, second", "violations": "table, row", "pack": "table, classes",
         "critical_chain": "table, classes, box", "shortest_row": "table, classes", "triangle_violation": "table",
         "allowed_positions": "table, row, kind, length", "min_holds": "table, classes, degree",
-        "largest_conflict_set": "table, classes, degree"}}
+        "largest_conflict_set": "table, classes, degree"},
+    "holds": {
+        "Hold": "table, length", "Hold.add": "kind", "Hold.remove": "number", "Hold.move": "number, position",
+        "Hold.compact": "", "Hold.boxes": "", "Hold.row": ""},
+    "cranes": {
+        "first_violation": "paths, gap", "uncross": "paths", "ranks": "paths", "route": "formations, gap",
+        "sweep": "loads, cuts, gap"},
+    "rail": {
+        "CraneRail": "gap, positions", "CraneRail.send": "crane, position", "CraneRail.step": "",
+        "CraneRail.positions": "", "CraneRail.waiting": "", "CraneRail.history": ""},
+    "yard": {
+        "build": "slots, height, placements", "allowed_slots": "columns, height, feet", "below": "columns, box",
+        "above": "columns, box", "lifts_to_free": "columns, box", "twenties_to_level": "columns, height, slot",
+        "fill_with_forties": "columns, tiers", "twenties_to_prepare": "columns, tiers"},
+    "blocks": {
+        "YardBlock": "slots, height", "YardBlock.place": "box, feet, slot", "YardBlock.lift": "box",
+        "YardBlock.dig": "box", "YardBlock.undo": "", "YardBlock.columns": ""},
+    "reefers": {
+        "advance": "boxes, choice", "simulate": "boxes, plan", "plug_share": "boxes", "cycle_divisor": "boxes",
+        "is_sustainable": "boxes, plugs", "sustainable_choices": "boxes, plugs", "longest_plan": "boxes, plugs",
+        "shortest_cycle": "boxes, plugs", "fewest_plugs": "boxes", "longest_outage": "boxes, plugs",
+        "Rack": "boxes, plugs", "Rack.plugged": "", "Rack.boxes": "", "Rack.plug": "number", "Rack.unplug": "number",
+        "Rack.advance": "", "Rack.hours_left": ""},
+    "gate": {
+        "schedule": "quotas, trucks", "first_excess": "quotas, trucks", "possible_slots": "quotas, trucks, truck",
+        "largest_set": "quotas, trucks", "extra_capacity": "quotas, trucks, window", "spare_quotas": "quotas, trucks",
+        "occupancy": "stays", "lanes": "stays", "Gate": "quotas", "Gate.book": "start, stop", "Gate.cancel": "truck",
+        "Gate.reduce": "slot, by", "Gate.advance": "", "Gate.calls": "", "Gate.waiting": "", "Gate.window": "truck",
+        "Gate.quotas": ""}}
 # For each module: its errors, with their attributes.
 ERRORS = {
     "codes": {"BadCode": "reason, position", "BadText": "position", "WrongDigit": "digit"},
@@ -95,7 +123,14 @@ ERRORS = {
     "lashing": {"BadGear": "name", "BadStack": "number", "BadRods": "number"},
     "moments": {"BadBoxes": "number"},
     "deck": {"NoStack": "", "NoBox": "", "StackFull": "", "StackEmpty": "", "NoReach": "", "TooManyRods": "",
-             "TooFewRods": "", "WouldNotHold": "stack"}}
+             "TooFewRods": "", "WouldNotHold": "stack"},
+    "holds": {"HoldFull": "", "NoPosition": "", "NoBox": "", "TooClose": "box"},
+    "cranes": {"BadPaths": "minute", "NotStepwise": "minute", "TooClose": "number", "BadSweep": "reason"},
+    "rail": {"NoCrane": "", "NoPosition": "", "HistoryFull": ""},
+    "yard": {"NoSuchBox": ""},
+    "blocks": {"BoxThere": "", "NoRoom": "", "Covered": "", "NoChange": ""},
+    "reefers": {"TooManyStates": "", "NoBox": "", "NotSo": "", "NoPlug": "", "LeavesRange": "box"},
+    "gate": {"NoSlot": "", "Past": "", "NoTruck": "", "TooMany": "", "Full": "start, stop"}}
 
 
 def module_of(name):

@@ -3,12 +3,17 @@
 import copy
 import inspect
 
-from quaybest import (allocator, berths, codes, fractions, intervals, lashing, moments, pipeline, ranks, segregation,
-                      stability, stowage, tides)
+from quaybest import (allocator, berths, codes, cranes, fractions, gate, intervals, lashing, moments, pipeline, ranks,
+                      reefers, segregation, stability, stowage, tides, yard)
+from quaybest.blocks import YardBlock
 from quaybest.channel import Channel
 from quaybest.deck import Deck
+from quaybest.gate import Gate
+from quaybest.holds import Hold
 from quaybest.manifolds import Manifold
 from quaybest.quays import Quay
+from quaybest.rail import CraneRail
+from quaybest.reefers import Rack
 from quaybest.vessels import Vessel
 from quaybest.voyages import Voyage
 from support import Case, listed, tupled
@@ -30,6 +35,12 @@ STACK = [5, 4, 3]
 TALL = [[10, 2], [10, 3], [4, 1]]
 TABLE = [[[0, 1, 2], [1, 0, 3], [2, 3, 1]], [0, 2, 3, 7]]
 KINDS = [0, 1, 2, 0]
+PATHS = [[0, 5], [1, 4], [2, 3], [3, 2]]
+COLUMNS = [[1, 3], [2, 3], [4], [4], []]
+REEFERS = [[1, 2, 0, 3, 0], [1, 2, 0, 3, 0]]
+QUOTAS = [1, 2, 1]
+TRUCKS = [[0, 2], [0, 0], [1, 1]]
+STAYS = [[3, 5], [5, 7], [6, 6]]
 
 # Calls of all functions that take lists or tuples, or return tuples.
 CALLS = [
@@ -61,7 +72,19 @@ CALLS = [
     (segregation.violations, TABLE, [[0, 0], [1, 1], [2, 2]]), (segregation.pack, TABLE, KINDS),
     (segregation.critical_chain, TABLE, KINDS, 3), (segregation.shortest_row, TABLE, KINDS),
     (segregation.triangle_violation, TABLE), (segregation.allowed_positions, TABLE, [[0, 4], [1, 9]], 2, 30),
-    (segregation.min_holds, TABLE, KINDS, 1), (segregation.largest_conflict_set, TABLE, KINDS, 1)]
+    (segregation.min_holds, TABLE, KINDS, 1), (segregation.largest_conflict_set, TABLE, KINDS, 1),
+    (cranes.first_violation, PATHS, 1), (cranes.uncross, PATHS), (cranes.ranks, PATHS),
+    (cranes.route, [[0, 10], [3, 12]], 2), (cranes.sweep, [1, 0, 2], [1], 2),
+    (yard.build, 3, 2, [[1, 20, 0], [2, 40, 1]]), (yard.allowed_slots, COLUMNS, 3, 20), (yard.below, COLUMNS, 3),
+    (yard.above, COLUMNS, 1), (yard.lifts_to_free, COLUMNS, 1), (yard.twenties_to_level, COLUMNS, 3, 0),
+    (yard.fill_with_forties, COLUMNS[:4], 2), (yard.twenties_to_prepare, COLUMNS, 2), (reefers.advance, REEFERS, [0]),
+    (reefers.simulate, REEFERS, [[], [0, 1]]), (reefers.plug_share, REEFERS), (reefers.cycle_divisor, REEFERS),
+    (reefers.is_sustainable, REEFERS, 1), (reefers.sustainable_choices, REEFERS, 1),
+    (reefers.longest_plan, REEFERS, 0), (reefers.shortest_cycle, REEFERS, 1), (reefers.fewest_plugs, REEFERS),
+    (reefers.longest_outage, REEFERS, 1), (gate.schedule, QUOTAS, TRUCKS), (gate.first_excess, [1, 0], [[0, 1], [0, 0]]),
+    (gate.possible_slots, QUOTAS, TRUCKS, 0), (gate.largest_set, QUOTAS, TRUCKS),
+    (gate.extra_capacity, QUOTAS, TRUCKS, [1, 2]), (gate.spare_quotas, QUOTAS, TRUCKS), (gate.occupancy, STAYS),
+    (gate.lanes, STAYS)]
 # What stands for itself among the arguments.
 OBJECTS = (HULL, GEAR)
 
@@ -81,7 +104,7 @@ class ValuesTest(Case):
                                                 ranks.rank, ranks.nth, fractions.common_divisor}
         from test_interface import CALLS as LISTED
         for module in (codes, ranks, fractions, intervals, tides, berths, pipeline, stability, allocator, stowage, lashing,
-                       moments, segregation):
+                       moments, segregation, cranes, yard, reefers, gate):
             for word in LISTED[module.__name__.partition(".")[2]]:
                 value = vars(module).get(word)
                 if inspect.isfunction(value):
@@ -132,3 +155,24 @@ class ValuesTest(Case):
             deck = Deck(GEAR, 5, 2, 9)
             deck.add(0, 4)
             self.assertTrue(is_plain(deck.stacks()))
+
+    def test_yards_take_lists_and_tuples(self):
+        for form in (listed, tupled):
+            hold = Hold(form(TABLE), 12)
+            found = [hold.add(1), hold.add(2), hold.move(2, 9), hold.compact(), hold.remove(1), hold.boxes()]
+            self.assertTrue(is_plain(tuple(found)))
+            self.same(hold.row(), [(2, 7)])
+            rail = CraneRail(3, form([0, 9]))
+            rail.send(0, 2)
+            self.assertTrue(is_plain((rail.step(), rail.positions(), rail.waiting(), rail.history())))
+            block = YardBlock(3, 3)
+            found = [block.place(1, 20, 0), block.place(2, 20, 0), block.dig(1), block.undo(), block.lift(2), block.columns()]
+            self.assertTrue(is_plain(tuple(found)))
+            rack = Rack(form(REEFERS), 1)
+            rack.plug(0)
+            rack.unplug(0)
+            self.assertTrue(is_plain((rack.advance(), rack.boxes(), rack.plugged())))
+            office = Gate(form(QUOTAS))
+            found = [office.book(0, 2), office.book(0, 1), office.advance(), office.calls(), office.waiting(),
+                     office.window(0), office.quotas()]
+            self.assertTrue(is_plain(tuple(found)))
