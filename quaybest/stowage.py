@@ -125,7 +125,8 @@ def shortest_odd_cycle(boxes):
     rows = [(number,) for number in range(len(boxes))]
     while rows:
         length = len(rows[0])
-        closed = [row for row in rows if length > 1 and length % 2 == 1 and conflicts[row[-1]][row[0]]]
+        # No box is in conflict with itself, so no tuple of one box is closed.
+        closed = [row for row in rows if length % 2 == 1 and conflicts[row[-1]][row[0]]]
         if closed:
             return closed[0]
         rows = [(*row, number) for row in rows for number in range(len(boxes))

@@ -267,6 +267,13 @@ class KeptTest(Case):
         self.same(told_cycle(boxes, 1), wanted)
         self.same(shortest_cycle(boxes, 1), wanted)
 
+    def test_ways_back_of_several_lengths(self):
+        for boxes, wanted in (([(1, 1, 0, 2, 0), (1, 1, -3, -1, -3), (1, 1, -3, 2, -2)], ((), ((2,), (0, 1)))),
+                              ([(1, 1, -1, 3, 0), (3, 1, 1, 4, 1), (1, 1, 0, 2, 1)],
+                               ((), ((0,), (1, 2), (0, 1), (1, 2))))):
+            self.same(told_cycle(boxes, 2), wanted)
+            self.same(shortest_cycle(boxes, 2), wanted)
+
     def test_four_boxes(self):
         boxes = [(1, 3, 0, 3, 0), (1, 3, 0, 3, 1), (1, 2, 0, 2, 0), (1, 2, 0, 2, 1)]
         for plugs in range(5):

@@ -352,6 +352,14 @@ class PrepareTest(Case):
             self.same(twenties_to_prepare(yard.frozen(), tiers), wanted)
         self.assertGreater(len(found), 30)
 
+    def test_first_of_several_in_stretches(self):
+        yard = Yard(6)
+        for box, feet, slot in ((1, 20, 0), (2, 20, 0), (3, 20, 1), (4, 20, 2), (5, 20, 2)):
+            yard.put(box, feet, slot)
+        self.same(self.told(yard, 3), (0, 1, 0, 0, 0, 2))
+        self.same(twenties_to_prepare(yard.frozen(), 3), (0, 1, 0, 0, 0, 2))
+        self.same(twenties_to_prepare(((7,), (), (), (), (8,), (), ()), 3), (0, 0, 0, 1, 2, 0, 0))
+
     def test_long_rows_of_slots(self):
         self.same(twenties_to_prepare(((),) * 30, 9), (0,) * 30)
         self.same(twenties_to_prepare(((),) * 31, 9), (0,) * 30 + (9,))
