@@ -94,7 +94,7 @@ def ranks(paths):
     before = list(range(len(paths[0])))
     for row in paths:
         ordered = sorted([(position, before[crane], crane) for crane, position in enumerate(row)])
-        cranes = [crane for _, _, crane in ordered]
+        cranes = [place[2] for place in ordered]
         before = [cranes.index(crane) for crane in range(len(row))]
         found.append(tuple(before))
     return tuple(found)

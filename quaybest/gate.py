@@ -20,7 +20,7 @@ class TooMany(QuayError):
 
 
 class Full(QuayError):
-    """An interval would be overloaded."""
+    """More trucks would be required in an interval than its capacity."""
 
     def __init__(self, start, stop):
         self.start = start
@@ -61,7 +61,7 @@ def intervals_of(quotas, trucks, slot):
 
 
 def excess_from(quotas, trucks, slot):
-    """The first interval from a slot on that is overloaded, or None."""
+    """The first interval from a slot on in which more trucks are required than its capacity, or None."""
     for row in intervals_of(quotas, trucks, slot):
         if row[2] > row[3]:
             return row
@@ -82,7 +82,7 @@ def schedule(quotas, trucks):
 
 
 def first_excess(quotas, trucks):
-    """The first interval that is overloaded, as (start, stop, required, capacity), or None."""
+    """The first interval with too many trucks, as (start, stop, required, capacity), or None."""
     return excess_from(quotas, trucks, 0)
 
 
@@ -110,17 +110,16 @@ def largest_set(quotas, trucks):
 
 def extra_capacity(quotas, trucks, window):
     """How many more trucks with a window there can be so that all have a schedule; None if they have none now."""
-    rows = intervals_of(quotas, trucks, 0)
-    if excess_from(quotas, trucks, 0) is not None:
+    if schedule(quotas, trucks) is None:
         return None
-    return spare_in(rows, window[0], window[1])
+    return spare_in(intervals_of(quotas, trucks, 0), window[0], window[1])
 
 
 def spare_quotas(quotas, trucks):
     """By how much the quota of each slot, it alone, can be reduced; None if there is no schedule now."""
-    rows = intervals_of(quotas, trucks, 0)
-    if excess_from(quotas, trucks, 0) is not None:
+    if schedule(quotas, trucks) is None:
         return None
+    rows = intervals_of(quotas, trucks, 0)
     return tuple([spare_in(rows, slot, slot) for slot in range(len(quotas))])
 
 
@@ -237,7 +236,7 @@ class Gate:
         return [(number, *self._windows[number]) for number in self._queue]
 
     def _check_room(self, quotas, windows, queue):
-        """Raise Full if an interval of the slots that are left would be overloaded."""
+        """Raise Full if an interval of the slots that are left would have too many trucks."""
         left = [(max(windows[number][0], self.slot), windows[number][1]) for number in queue]
         excess = excess_from(quotas, left, self.slot)
         if excess is not None:

@@ -67,7 +67,7 @@ class Hold:
         ordered = self.boxes()
         if not ordered:
             return 0
-        positions = pack(self._table, [kind for _, kind, _ in ordered])
+        positions = pack(self._table, [row[1] for row in ordered])
         self._boxes = sorted([(number, kind, position) for (number, kind, _), position in zip(ordered, positions)])
         return ordered[-1][2] - positions[-1]
 
