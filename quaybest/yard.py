@@ -138,7 +138,7 @@ def fill_with_forties(columns, tiers):
         for first, length in runs_up_to(heights, tier):
             if length % 2 == 1:
                 return None
-            found.extend(range(first, first + length, 2))
+            found.extend(list(range(first, first + length, 2)))
     return tuple(found)
 
 

@@ -7,6 +7,7 @@ import re
 import warnings
 
 from support import Case
+from views import misplaced
 
 FOLDER = os.path.join(os.path.dirname(os.path.abspath(__file__)), os.pardir, "quaybest")
 LIBRARY = {("math", "gcd"), ("itertools", "combinations"), ("itertools", "permutations")}
@@ -134,8 +135,7 @@ class FormTest(Case):
 
     def test_views_are_iterated_on_the_spot(self):
         for name, text in files():
-            for match in re.finditer(r"(\S+) (?:enumerate|zip|reversed)\(", text):
-                self.assertEqual(match.group(1), "in", name)
+            self.assertEqual(misplaced(text), [], name)
 
     def test_library_calls_are_iterated_on_the_spot(self):
         iterated = [node.iter for kind in (ast.For, ast.comprehension) for _, node in nodes(kind)]
