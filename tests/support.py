@@ -23,9 +23,11 @@ class Case(unittest.TestCase):
 
 
 def kinds(value):
-    """The kind of a value, and of all values in it."""
+    """The kind of a value, and of all values in it; of a dict its keys, too, in their order."""
     if isinstance(value, (tuple, list)):
         return (value.__class__.__name__, [kinds(item) for item in value])
+    if isinstance(value, dict):
+        return ("dict", [(key, kinds(item)) for key, item in value.items()])
     return value.__class__.__name__
 
 

@@ -15,9 +15,9 @@ STATEMENTS = """Module FunctionDef ClassDef Return Assign AugAssign For While If
     ImportFrom Delete""".split()
 EXPRESSIONS = """BoolOp BinOp UnaryOp IfExp Dict ListComp DictComp Compare Call Constant Attribute Subscript Starred
     Name List Tuple Slice And Or Add Sub Mult Mod FloorDiv LShift BitOr BitAnd Not USub Eq NotEq Lt LtE Gt GtE Is
-    IsNot In NotIn comprehension arguments arg keyword alias Load Store Del""".split()
-CALLED = """len range enumerate min max sum abs sorted reversed int str list tuple set any all zip""".split()
-METHODS = "append count extend find get index items pop".split()
+    IsNot In NotIn comprehension arguments arg keyword alias JoinedStr FormattedValue Load Store Del""".split()
+CALLED = "len range enumerate min max sum abs sorted reversed int str bool list tuple set any all zip".split()
+METHODS = "append count extend find get index insert items join pop".split()
 WORDS = r"\b(type|typing|enum|Enum|Flag|Generic|Protocol|ABC|namedtuple)\b|dataclass|overload|contextmanager"
 NAMES = "elements register mro open input law add_note args format hex encode decode".split()
 
@@ -161,7 +161,7 @@ class FormTest(Case):
             tree = ast.parse(text)
             read = {node.id for node in ast.walk(tree) if isinstance(node, ast.Name) and isinstance(node.ctx, ast.Load)}
             self.assertNotIn("_", read, name)
-            self.assertLessEqual(set(re.findall(r"\b__\w+", text)), {"__init__"}, name)
+            self.assertLessEqual(set(re.findall(r"\b__\w+", text)), {"__init__", "__len__"}, name)
 
     def test_documented(self):
         for name, text in files():

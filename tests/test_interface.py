@@ -105,7 +105,29 @@ CALLS = {
         "largest_set": "quotas, trucks", "extra_capacity": "quotas, trucks, window", "spare_quotas": "quotas, trucks",
         "occupancy": "stays", "lanes": "stays", "Gate": "quotas", "Gate.book": "start, stop", "Gate.cancel": "truck",
         "Gate.reduce": "slot, by", "Gate.advance": "", "Gate.calls": "", "Gate.waiting": "", "Gate.window": "truck",
-        "Gate.quotas": ""}}
+        "Gate.quotas": ""},
+    "messages": {"check_message": "message", "write_message": "message", "read_message": "text"},
+    "customs": {
+        "Table": "states, entries, transitions", "Table.allows": "start, stop", "Table.following": "state",
+        "ledger": "table, messages", "balances_at": "table, messages, time", "effect_of": "table, messages, message",
+        "is_cleared": "table, messages, item", "bond_at": "table, messages, rates, time",
+        "peak_bond": "table, messages, rates", "routes": "table, start, stop", "shortest_route": "table, start, stop",
+        "CustomsLog": "table", "CustomsLog.append": "message", "CustomsLog.undo": "", "CustomsLog.messages": "",
+        "CustomsLog.ledger": "", "CustomsLog.__len__": ""},
+    "formulas": {
+        "read_formula": "text", "write_formula": "tree", "duty": "tree, value, weight", "leaves": "tree", "depth": "tree"},
+    "pieces": {
+        "pieces": "tree", "is_equivalent": "first, second", "is_at_most": "first, second", "is_convex": "tree",
+        "is_concave": "tree", "first_difference": "first, second", "separate": "tree, parcels",
+        "combined": "tree, parcels", "cheapest": "trees, value, weight"},
+    "tariffs": {
+        "Tariff": "", "Tariff.enter": "heading, day, text", "Tariff.remove": "heading, day",
+        "Tariff.formula_on": "heading, day", "Tariff.duty": "heading, day, value, weight", "Tariff.headings": "day",
+        "Tariff.entries": "", "Tariff.__len__": ""},
+    "counts": {
+        "total_of": "lists", "difference": "start, stop", "compose": "first, second", "inverse": "change",
+        "applied": "counts, change", "merge": "base, mine, theirs", "check_counts": "counts", "check_change": "change"},
+    "misreads": {"is_misread": "first, second", "match_misreads": "manifest, tally"}}
 # For each module: its errors, with their attributes.
 ERRORS = {
     "codes": {"BadCode": "reason, position", "BadText": "position", "WrongDigit": "digit"},
@@ -130,7 +152,17 @@ ERRORS = {
     "yard": {"NoSuchBox": ""},
     "blocks": {"BoxThere": "", "NoRoom": "", "Covered": "", "NoChange": ""},
     "reefers": {"TooManyStates": "", "NoBox": "", "NotSo": "", "NoPlug": "", "LeavesRange": "box"},
-    "gate": {"NoSlot": "", "Past": "", "NoTruck": "", "TooMany": "", "Full": "start, stop"}}
+    "gate": {"NoSlot": "", "Past": "", "NoTruck": "", "TooMany": "", "Full": "start, stop"},
+    "messages": {"BadMessage": "reason", "BadLine": "position"},
+    "customs": {"BadTable": "number, reason", "UnknownState": "state", "BadRates": "", "LogError": ""},
+    "formulas": {"BadFormula": "position", "TooLong": ""},
+    "tariffs": {"TariffError": ""},
+    "counts": {"BadCounts": "code", "Negative": "code"},
+    "misreads": {"TooManyCodes": ""}}
+# For each module: its error under which others of it stand, and these.
+UNDER = {"allocator": ("AllocatorError", "BadCount LimitReached NotEnough NotIssued NothingToUndo"),
+         "customs": ("LogError", "TooManyMessages NothingToUndo"),
+         "tariffs": ("TariffError", "BadHeading BadDay TooManyEntries NoEntry NotInForce")}
 
 
 def module_of(name):
@@ -167,11 +199,12 @@ class InterfaceTest(Case):
                 else:
                     self.assertNotIn("__init__", vars(error))
 
-    def test_errors_of_the_allocator(self):
-        module = module_of("allocator")
-        for word in ("BadCount", "LimitReached", "NotEnough", "NotIssued", "NothingToUndo"):
-            self.assertEqual(vars(module)[word].__bases__, (module.AllocatorError,))
-            self.assertEqual(vars(module)[word].__module__, "quaybest.allocator")
+    def test_errors_under_others(self):
+        for name, (base, words) in UNDER.items():
+            module = module_of(name)
+            for word in words.split():
+                self.assertEqual(vars(module)[word].__bases__, (vars(module)[base],))
+                self.assertEqual(vars(module)[word].__module__, "quaybest." + name)
 
     def test_base_of_all_errors(self):
         self.assertEqual(QuayError.__bases__, (ValueError,))

@@ -3,8 +3,9 @@
 import copy
 import inspect
 
-from quaybest import (allocator, berths, codes, cranes, fractions, gate, intervals, lashing, moments, pipeline, ranks,
-                      reefers, segregation, stability, stowage, tides, yard)
+from quaybest import (allocator, berths, codes, counts, cranes, customs, formulas, fractions, gate, intervals, lashing,
+                      messages, misreads, moments, pieces, pipeline, ranks, reefers, segregation, stability, stowage, tariffs,
+                      tides, yard)
 from quaybest.blocks import YardBlock
 from quaybest.channel import Channel
 from quaybest.deck import Deck
@@ -41,6 +42,14 @@ REEFERS = [[1, 2, 0, 3, 0], [1, 2, 0, 3, 0]]
 QUOTAS = [1, 2, 1]
 TRUCKS = [[0, 2], [0, 0], [1, 1]]
 STAYS = [[3, 5], [5, 7], [6, 6]]
+CUSTOMS = customs.Table(["entry", "bond"], ["entry"], [["entry", "bond"]])
+ARRIVAL = ["arrive", 1, 10, "TEA", 300, "entry"]
+MESSAGES = [["move", 2, 20, "TEA", 200, "entry", "bond"], ARRIVAL, ["void", 7]]
+RATES = [[1, 2], [0, 4]]
+TREE = ["greater", ["sum", [["percent", 8], ["kilo", 1]]], ["half", ["less", ["kilo", 30], ["percent", 90]]]]
+OTHER = ["kilo", 3]
+COUNTS = {"B": 2, "A": 1}
+CHANGE = {"C": 3, "B": -1}
 
 # Calls of all functions that take lists or tuples, or return tuples.
 CALLS = [
@@ -84,9 +93,22 @@ CALLS = [
     (reefers.longest_outage, REEFERS, 1), (gate.schedule, QUOTAS, TRUCKS), (gate.first_excess, [1, 0], [[0, 1], [0, 0]]),
     (gate.possible_slots, QUOTAS, TRUCKS, 0), (gate.largest_set, QUOTAS, TRUCKS),
     (gate.extra_capacity, QUOTAS, TRUCKS, [1, 2]), (gate.spare_quotas, QUOTAS, TRUCKS), (gate.occupancy, STAYS),
-    (gate.lanes, STAYS)]
+    (gate.lanes, STAYS), (messages.check_message, ARRIVAL), (messages.write_message, ARRIVAL),
+    (customs.ledger, CUSTOMS, MESSAGES), (customs.balances_at, CUSTOMS, MESSAGES, 15),
+    (customs.effect_of, CUSTOMS, MESSAGES, ["void", 1]), (customs.is_cleared, CUSTOMS, MESSAGES, "TEA"),
+    (customs.bond_at, CUSTOMS, MESSAGES, RATES, 15), (customs.peak_bond, CUSTOMS, MESSAGES, RATES),
+    (customs.routes, CUSTOMS, "entry", "bond"), (customs.shortest_route, CUSTOMS, "entry", "bond"),
+    (formulas.write_formula, TREE), (formulas.duty, TREE, 30, 7), (formulas.leaves, TREE), (formulas.depth, TREE),
+    (pieces.pieces, TREE), (pieces.is_equivalent, TREE, OTHER), (pieces.is_at_most, TREE, OTHER), (pieces.is_convex, TREE),
+    (pieces.is_concave, TREE), (pieces.first_difference, TREE, OTHER), (pieces.separate, TREE, [[1, 2], [3, 0]]),
+    (pieces.combined, TREE, [[1, 2], [3, 0]]), (pieces.cheapest, [TREE, OTHER], 9, 9)]
+# Calls of all functions that return dicts, also within.
+DICT_CALLS = [
+    (counts.total_of, [COUNTS, COUNTS]), (counts.difference, COUNTS, {}), (counts.compose, CHANGE, CHANGE),
+    (counts.inverse, CHANGE), (counts.applied, COUNTS, CHANGE), (counts.merge, COUNTS, {"B": 3}, COUNTS),
+    (misreads.match_misreads, COUNTS, {"C": 1, "D": 1})]
 # What stands for itself among the arguments.
-OBJECTS = (HULL, GEAR)
+OBJECTS = (HULL, GEAR, CUSTOMS)
 
 
 def is_plain(value):
@@ -100,11 +122,14 @@ class ValuesTest(Case):
     """[0.1], [0.3]: what is passed and what is returned."""
 
     def test_every_function_is_called_here(self):
-        called = {call[0] for call in CALLS} | {codes.remainder, codes.with_check_digit, codes.is_assignable, codes.parse,
-                                                ranks.rank, ranks.nth, fractions.common_divisor}
+        called = {call[0] for call in [*CALLS, *DICT_CALLS]} | {
+            codes.remainder, codes.with_check_digit, codes.is_assignable, codes.parse, ranks.rank, ranks.nth,
+            fractions.common_divisor, messages.read_message, formulas.read_formula, misreads.is_misread,
+            counts.check_counts, counts.check_change}
         from test_interface import CALLS as LISTED
         for module in (codes, ranks, fractions, intervals, tides, berths, pipeline, stability, allocator, stowage, lashing,
-                       moments, segregation, cranes, yard, reefers, gate):
+                       moments, segregation, cranes, yard, reefers, gate, messages, customs, formulas, pieces, tariffs,
+                       counts, misreads):
             for word in LISTED[module.__name__.partition(".")[2]]:
                 value = vars(module).get(word)
                 if inspect.isfunction(value):
@@ -123,6 +148,30 @@ class ValuesTest(Case):
     def test_tuples_of_whole_numbers_are_returned(self):
         for call, *args in CALLS:
             self.assertTrue(is_plain(call(*listed(args))), call)
+
+    def test_dicts_that_are_returned(self):
+        for call, *args in DICT_CALLS:
+            given = copy.deepcopy(args)
+            found = call(*given)
+            wanted = copy.deepcopy(found)
+            self.assertEqual(given, args)
+            for row in [found, *found] if isinstance(found, tuple) else [found]:
+                if isinstance(row, dict):
+                    self.assertEqual(list(row), sorted(row))
+                    row["Z"] = 9
+            # What was returned has been changed: nothing else is.
+            self.assertEqual(given, args)
+            self.same(call(*tupled(given)), wanted)
+
+    def test_books_take_lists_and_tuples(self):
+        for form in (listed, tupled):
+            table = customs.Table(form(["entry", "bond"]), form(["entry"]), form([["entry", "bond"]]))
+            log = customs.CustomsLog(table)
+            found = [log.append(form(message)) for message in MESSAGES]
+            self.assertTrue(is_plain((*found, log.messages(), log.ledger(), table.states, table.entries, len(log))))
+        tariff = tariffs.Tariff()
+        tariff.enter("A", 1, "8 percent")
+        self.assertTrue(is_plain((tariff.headings(2), tariff.entries(), tariff.duty("A", 1, 3, 4))))
 
     def test_classes_take_lists_and_tuples(self):
         for form in (listed, tupled):
