@@ -24,6 +24,11 @@ def violations(table, row):
                   if too_close(table, row[first], row[second])])
 
 
+def is_segregated(table, row):
+    """True if no two boxes of a row are too close."""
+    return not violations(table, row)
+
+
 def pack(table, classes):
     """The positions of boxes of these classes, packed."""
     positions = []

@@ -294,7 +294,7 @@ class BondTest(Case):
 
     def test_wrong_rates(self):
         for rates in ((), RATES[:2], (*RATES, (1, 1)), ((-1, 1), (1, 1), (1, 1)), ((1, 1), (1, 1), (1, 0)),
-                      ((1, 1), (1, -1), (1, 1))):
+                      ((1, 1), (1, -1), (1, 1)), ((1, 1), (1, 1), (1, 1, 1)), ((1, 1), (1,), (1, 1))):
             self.refused(BadRates, bond_at, TABLE, [], rates, 5)
             self.refused(BadRates, peak_bond, TABLE, [], listed(rates))
             self.refused(BadMessage, bond_at, TABLE, [()], rates, 5, told={"reason": "kind"})

@@ -12,12 +12,12 @@ from views import misplaced
 FOLDER = os.path.join(os.path.dirname(os.path.abspath(__file__)), os.pardir, "quaybest")
 LIBRARY = {("math", "gcd"), ("itertools", "combinations"), ("itertools", "permutations")}
 STATEMENTS = """Module FunctionDef ClassDef Return Assign AugAssign For While If Raise Expr Pass Break Continue
-    ImportFrom Delete""".split()
+    ImportFrom Delete Try ExceptHandler""".split()
 EXPRESSIONS = """BoolOp BinOp UnaryOp IfExp Dict ListComp DictComp Compare Call Constant Attribute Subscript Starred
     Name List Tuple Slice And Or Add Sub Mult Mod FloorDiv LShift BitOr BitAnd Not USub Eq NotEq Lt LtE Gt GtE Is
     IsNot In NotIn comprehension arguments arg keyword alias JoinedStr FormattedValue Load Store Del""".split()
 CALLED = "len range enumerate min max sum abs sorted reversed int str bool list tuple set any all zip".split()
-METHODS = "append count extend find get index insert items join pop".split()
+METHODS = "append count extend find get index insert items join pop values".split()
 WORDS = r"\b(type|typing|enum|Enum|Flag|Generic|Protocol|ABC|namedtuple)\b|dataclass|overload|contextmanager"
 NAMES = "elements register mro open input law add_note args format hex encode decode".split()
 
@@ -85,9 +85,24 @@ class FormTest(Case):
             for node in ast.parse(text).body:
                 self.assertIsInstance(node, (ast.Expr, ast.ImportFrom, ast.FunctionDef, ast.ClassDef, ast.Assign), name)
                 if isinstance(node, ast.Assign):
-                    ast.literal_eval(node.value)
+                    self.check_plain(node.value, ast.parse(text))
                 if isinstance(node, ast.Expr):
                     self.assertIsInstance(node.value, ast.Constant)
+
+    def check_plain(self, node, tree):
+        """A value is plain, or a dict of functions of the file."""
+        if isinstance(node, ast.Dict) and any(isinstance(value, ast.Name) for value in node.values):
+            functions = [other.name for other in tree.body if isinstance(other, ast.FunctionDef)]
+            self.assertLessEqual({value.id for value in node.values}, set(functions))
+        else:
+            ast.literal_eval(node)
+
+    def test_own_errors_are_caught(self):
+        for name, node in nodes(ast.ExceptHandler):
+            self.assertIsInstance(node.type, ast.Name, name)
+            self.assertNotIn(node.type.id, dir(builtins), name)
+        for name, node in nodes(ast.Try):
+            self.assertEqual(node.finalbody, [], name)
 
     def test_imports(self):
         known = {"quaybest." + name[:-3] for name, _ in files()}
@@ -120,7 +135,9 @@ class FormTest(Case):
             if isinstance(node.func, ast.Name) and node.func.id in dir(builtins):
                 self.assertIn(node.func.id, CALLED, place)
                 self.assertEqual(node.keywords, [], place)
-            self.assertFalse(any(isinstance(arg, ast.Starred) for arg in node.args), place)
+            for arg in node.args:
+                self.assertFalse(isinstance(arg, ast.Starred) and not isinstance(arg.value, ast.Name), place)
+                self.assertFalse(isinstance(arg, ast.Starred) and arg is not node.args[-1], place)
 
     def test_sets_are_only_sorted(self):
         for name, text in files():

@@ -127,7 +127,36 @@ CALLS = {
     "counts": {
         "total_of": "lists", "difference": "start, stop", "compose": "first, second", "inverse": "change",
         "applied": "counts, change", "merge": "base, mine, theirs", "check_counts": "counts", "check_change": "change"},
-    "misreads": {"is_misread": "first, second", "match_misreads": "manifest, tally"}}
+    "misreads": {"is_misread": "first, second", "match_misreads": "manifest, tally"},
+    "bills": {
+        "check_bill": "bill", "roll_up": "bill", "first_mismatch": "bill", "remove_bill": "bill, path", "Tally": "",
+        "Tally.add": "name, counts", "Tally.remove": "name", "Tally.total": "", "Tally.compare": "bill",
+        "Tally.__len__": ""},
+    "empties": {
+        "is_balanced": "surplus, flows", "cost": "legs, flows", "flows_with_first": "surplus, first",
+        "optimal_flows": "legs, surplus", "optimal_range": "legs, surplus", "potentials": "legs, surplus",
+        "cost_slack": "legs, surplus, leg", "to_moves": "flows"},
+    "ring": {
+        "RingService": "legs, stock", "RingService.request": "start, stop, count",
+        "RingService.ship": "start, direction, count", "RingService.settle": "", "RingService.undo": "",
+        "RingService.stock": "", "RingService.planned": "", "RingService.paid": "", "RingService.changes": ""},
+    "arrivals": {
+        "Container": "code, feet, weight, ports, *, goods=None, reefer=None, formula=0, value=0", "Container.copied": "",
+        "Arrival": "*, position, length, stay, port, hull, places, tier, height, gear, acceleration, boxes, plan",
+        "Setup": "*, tide, sills, bollards, gap, cranes, slots, height, plugs, quotas, table, free, formulas, bond, goods"},
+    "terminal": {
+        "Terminal": "setup", "Terminal.add_ship": "arrival", "Terminal.berth": "ship",
+        "Terminal.move_crane": "crane, position", "Terminal.tick": "", "Terminal.lift": "ship, stack",
+        "Terminal.restow": "ship, stack", "Terminal.stow": "ship, stack, code", "Terminal.fill": "ship, tank, amount",
+        "Terminal.lash": "ship, stack, rods", "Terminal.sail": "ship", "Terminal.to_yard": "code, slot",
+        "Terminal.to_reefers": "code", "Terminal.plan_reefers": "", "Terminal.next_hour": "",
+        "Terminal.book": "start, stop", "Terminal.cancel": "truck", "Terminal.receive": "truck, box",
+        "Terminal.release": "truck, code", "Terminal.declare": "message", "Terminal.pay": "code",
+        "Terminal.raise_bond": "by", "Terminal.now": "", "Terminal.locate": "code", "Terminal.stacks": "ship",
+        "Terminal.tally": "ship", "Terminal.berthing_times": "", "Terminal.temperatures": "", "Terminal.trucks": "",
+        "Terminal.irregular": "", "Terminal.duty_owed": "", "Terminal.bond": "", "Terminal.crane_log": "",
+        "Terminal.crane_rows": "", "Terminal.journal": ""},
+    "journals": {"perform": "terminal, entry", "rebuilt": "setup, entries"}}
 # For each module: its errors, with their attributes.
 ERRORS = {
     "codes": {"BadCode": "reason, position", "BadText": "position", "WrongDigit": "digit"},
@@ -158,7 +187,13 @@ ERRORS = {
     "formulas": {"BadFormula": "position", "TooLong": ""},
     "tariffs": {"TariffError": ""},
     "counts": {"BadCounts": "code", "Negative": "code"},
-    "misreads": {"TooManyCodes": ""}}
+    "misreads": {"TooManyCodes": ""},
+    "bills": {"BadBill": "path, reason", "NoBill": "", "NegativeTotal": "", "BadSheet": "", "TooManySheets": ""},
+    "empties": {"BadLegs": "number", "BadSurplus": "port", "BadFlows": "", "AllUsed": ""},
+    "ring": {"BadStock": "port", "NoPort": "", "SamePort": "", "TooFewEmpties": "", "TooManyChanges": "",
+             "NothingToUndo": ""},
+    "arrivals": {"BadArrival": "reason"},
+    "refusals": {"Refused": "reason"}}
 # For each module: its error under which others of it stand, and these.
 UNDER = {"allocator": ("AllocatorError", "BadCount LimitReached NotEnough NotIssued NothingToUndo"),
          "customs": ("LogError", "TooManyMessages NothingToUndo"),

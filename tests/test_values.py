@@ -3,8 +3,8 @@
 import copy
 import inspect
 
-from quaybest import (allocator, berths, codes, counts, cranes, customs, formulas, fractions, gate, intervals, lashing,
-                      messages, misreads, moments, pieces, pipeline, ranks, reefers, segregation, stability, stowage, tariffs,
+from quaybest import (allocator, berths, bills, codes, counts, cranes, customs, empties, formulas, fractions, gate,
+                      intervals, lashing, messages, misreads, moments, pieces, pipeline, ranks, reefers, segregation, stability, stowage, tariffs,
                       tides, yard)
 from quaybest.blocks import YardBlock
 from quaybest.channel import Channel
@@ -50,6 +50,9 @@ TREE = ["greater", ["sum", [["percent", 8], ["kilo", 1]]], ["half", ["less", ["k
 OTHER = ["kilo", 3]
 COUNTS = {"B": 2, "A": 1}
 CHANGE = {"C": 3, "B": -1}
+BILL = [5, {"B": 1, "A": 1}, [[3, {"C": 3}, []], [0, {}, []]]]
+LEGS = [[3, 5], [2, 2], [4, 1]]
+SURPLUS = [3, -2, -1]
 
 # Calls of all functions that take lists or tuples, or return tuples.
 CALLS = [
@@ -101,12 +104,16 @@ CALLS = [
     (formulas.write_formula, TREE), (formulas.duty, TREE, 30, 7), (formulas.leaves, TREE), (formulas.depth, TREE),
     (pieces.pieces, TREE), (pieces.is_equivalent, TREE, OTHER), (pieces.is_at_most, TREE, OTHER), (pieces.is_convex, TREE),
     (pieces.is_concave, TREE), (pieces.first_difference, TREE, OTHER), (pieces.separate, TREE, [[1, 2], [3, 0]]),
-    (pieces.combined, TREE, [[1, 2], [3, 0]]), (pieces.cheapest, [TREE, OTHER], 9, 9)]
+    (pieces.combined, TREE, [[1, 2], [3, 0]]), (pieces.cheapest, [TREE, OTHER], 9, 9),
+    (bills.check_bill, BILL), (bills.first_mismatch, [7, {}, [BILL]]), (empties.is_balanced, SURPLUS, [2, 0, -1]),
+    (empties.cost, LEGS, [2, 0, -1]), (empties.flows_with_first, SURPLUS, 2), (empties.optimal_flows, LEGS, SURPLUS),
+    (empties.optimal_range, LEGS, SURPLUS), (empties.potentials, LEGS, SURPLUS), (empties.cost_slack, LEGS, SURPLUS, 1),
+    (empties.to_moves, [2, 0, -1])]
 # Calls of all functions that return dicts, also within.
 DICT_CALLS = [
     (counts.total_of, [COUNTS, COUNTS]), (counts.difference, COUNTS, {}), (counts.compose, CHANGE, CHANGE),
     (counts.inverse, CHANGE), (counts.applied, COUNTS, CHANGE), (counts.merge, COUNTS, {"B": 3}, COUNTS),
-    (misreads.match_misreads, COUNTS, {"C": 1, "D": 1})]
+    (misreads.match_misreads, COUNTS, {"C": 1, "D": 1}), (bills.roll_up, BILL), (bills.remove_bill, BILL, [1])]
 # What stands for itself among the arguments.
 OBJECTS = (HULL, GEAR, CUSTOMS)
 
@@ -129,7 +136,7 @@ class ValuesTest(Case):
         from test_interface import CALLS as LISTED
         for module in (codes, ranks, fractions, intervals, tides, berths, pipeline, stability, allocator, stowage, lashing,
                        moments, segregation, cranes, yard, reefers, gate, messages, customs, formulas, pieces, tariffs,
-                       counts, misreads):
+                       counts, misreads, bills, empties):
             for word in LISTED[module.__name__.partition(".")[2]]:
                 value = vars(module).get(word)
                 if inspect.isfunction(value):
