@@ -97,6 +97,18 @@ class FormTest(Case):
         else:
             ast.literal_eval(node)
 
+    def test_attributes_are_assigned_through_local_names(self):
+        for name, node in nodes((ast.Assign, ast.AugAssign)):
+            for target in node.targets if isinstance(node, ast.Assign) else [node.target]:
+                if isinstance(target, ast.Attribute):
+                    self.assertIsInstance(target.value, ast.Name, (name, node.lineno))
+
+    def test_errors_are_created_on_the_spot(self):
+        errors = {node.name for _, node in nodes(ast.ClassDef) if node.bases}
+        for name, node in nodes(ast.Raise):
+            self.assertIsInstance(node.exc, ast.Call, (name, node.lineno))
+            self.assertIn(node.exc.func.id, errors, (name, node.lineno))
+
     def test_own_errors_are_caught(self):
         for name, node in nodes(ast.ExceptHandler):
             self.assertIsInstance(node.type, ast.Name, name)

@@ -14,7 +14,9 @@ from support import Case
 UNSTABLE = Hull((1000, 0, 0, 10), ((2, 1000, 200), (40, 9000, 200)), ((300, 0, 5, 1, 2),), height=500, heel=1000, trim=50)
 EVEN = Hull((1000, 0, 0, 10), ((2, 1000, 200), (40, 9000, 200)), ((300, 1, 0, 1, 0),), height=1, heel=1000, trim=0)
 SMALL = Hull((1000, 0, 0, 10), ((2, 1000, 200), (40, 1100, 200)), ((300, 0, 0, 1, 0),), height=1, heel=1000, trim=50)
-PLACES = ((0, 0, 0, 5), (5, 0, 0, 5))
+# One whose trim is a tenth of what is at 100, less what is at -100, for the most part; it may be 1.
+LONG = Hull((1000, 0, 0, 10), ((2, 1000, 200), (40, 9000, 200)), ((30, 100, 0, 1, 0), (30, -100, 0, 1, 0), (30, 0, 0, 1, 0)),
+            height=1, heel=1000, trim=1)
 
 
 def own(number, **more):
@@ -308,6 +310,12 @@ class LiftTest(ShipsCase):
         office = self.berthed([box(2), box(3), own(1, weight=7)], [0, 1, 2], places=places, hull=EVEN)
         self.same(office.lift(0, 2), (code(1), "discharge"))
 
+    def test_only_the_top_box_leaves(self):
+        boxes = [own(1, weight=7), own(2, weight=5), box(3, weight=15)]
+        office = self.berthed(boxes, [0, 0, 1], places=((0, 100, 0, 5), (5, -100, 0, 5)), hull=LONG)
+        self.same(office.lift(0, 0), (code(2), "discharge"))
+        self.reason(office, "unstable", office.lift, 0, 0)
+
     def test_a_box_set_aside_needs_no_bond(self):
         office = self.berthed([own(1, value=1000), box(2, ports=(2, 5), value=9999)], [0, 0], options={"bond": 80})
         self.same(office.lift(0, 0), (code(2), "set aside"))
@@ -486,6 +494,15 @@ class FillTest(ShipsCase):
         even = self.berthed([own(1, weight=10), box(2, weight=10)], [0, 1], places=((0, 1, 0, 5), (5, -1, 0, 5)), hull=EVEN)
         self.reason(even, "unstable", even.lift, 0, 0)
         self.reason(even, "unstable", even.fill, 0, 0, 1)
+
+
+    def test_the_other_tanks_stay(self):
+        office = self.berthed(hull=LONG)
+        for tank, amount in ((0, 10), (1, 20), (0, 30), (1, 30), (0, 25)):
+            self.same(office.fill(0, tank, amount), amount)
+        self.reason(office, "unstable", office.fill, 0, 0, 0)
+        self.same(office.fill(0, 2, 30), 30)
+        self.reason(office, "unstable", office.fill, 0, 1, 0)
 
 
 class LashTest(ShipsCase):
