@@ -126,7 +126,7 @@ def executed_acts(table, messages):
     due = sorted([(acts[0][2], number, acts[0]) for number, acts in standing_acts(messages).items() if len(acts) == 1])
     kilos = {}
     found = []
-    for _, _, act in due:
+    for act in [row[2] for row in due]:
         if is_executable(table, kilos, act):
             execute(kilos, act)
             found.append(act)

@@ -28,6 +28,11 @@ def box(number, **more):
     return Container(code(number), told.pop("feet"), told.pop("weight"), told.pop("ports"), **told)
 
 
+def own(number, **more):
+    """A box whose journey ends in port 3."""
+    return box(number, ports=(1, 3), **more)
+
+
 def ship(boxes=(), plan=(), **more):
     """A ship in port 3 with two stacks, over the bollards 0 and 5 of its ten."""
     told = {"position": 0, "length": 10, "stay": 60, "port": 3, "hull": HULL, "places": ((0, 0, 0, 5), (5, 1, 0, 5)),
@@ -48,6 +53,16 @@ def setup(**more):
 
 def terminal(**more):
     return Terminal(setup(**more))
+
+
+def served(office, *boxes):
+    """Let trucks bring boxes in the present hour; return their codes."""
+    hour = office.now() // 60
+    trucks = [office.book(hour, hour) for _ in boxes]
+    office.next_hour()
+    for truck, container in zip(trucks, boxes):
+        office.receive(truck, container)
+    return [container.code for container in boxes]
 
 
 def questions(office):

@@ -2,7 +2,7 @@
 
 import itertools
 
-from office import REEFER, box, code, questions, ship, terminal
+from office import REEFER, box, code, own, questions, served, ship, terminal
 from quaybest.customs import TooManyMessages, UnknownState
 from quaybest.gate import Full, NoSlot, NoTruck, Past, TooMany
 from quaybest.messages import BadMessage
@@ -15,15 +15,6 @@ from support import Case
 
 class BoxesCase(Case):
     """What these tests have in common."""
-
-    def served(self, office, *boxes):
-        """Let trucks bring boxes in the present hour; return their codes."""
-        hour = office.now() // 60
-        trucks = [office.book(hour, hour) for _ in boxes]
-        office.next_hour()
-        for truck, container in zip(trucks, boxes):
-            office.receive(truck, container)
-        return [container.code for container in boxes]
 
     def discharged(self, office, *boxes):
         """Let a ship bring boxes for here over a place beside crane 0; return their codes."""
@@ -48,11 +39,6 @@ class BoxesCase(Case):
         self.same(questions(office), before)
 
 
-def own(number, **more):
-    """A box whose journey ends in port 3."""
-    return box(number, ports=(1, 3), **more)
-
-
 def freed(office, number, weight=10, at=1):
     """Declare a box free: two messages whose numbers go with that of its code."""
     office.declare(("arrive", 100 + number, at, code(number), 100 * weight, "entry"))
@@ -64,7 +50,7 @@ class YardTest(BoxesCase):
 
     def test_to_yard(self):
         office = terminal()
-        codes = self.served(office, *[box(number, feet=feet) for number, feet in enumerate((20, 20, 40, 20, 40))])
+        codes = served(office, *[box(number, feet=feet) for number, feet in enumerate((20, 20, 40, 20, 40))])
         self.same([office.to_yard(codes[0], 1), office.to_yard(codes[1], 2), office.to_yard(codes[2], 1)], [0, 0, 1])
         self.same([office.locate(text) for text in codes[:4]], [("yard", 1), ("yard", 2), ("yard", 1), ("apron",)])
         for text, slot in ((codes[3], 1), (codes[3], 2), (codes[4], 0), (codes[4], 2), (codes[4], 3), (codes[3], 4),
@@ -78,13 +64,13 @@ class YardTest(BoxesCase):
 
     def test_the_height(self):
         office = terminal(height=2)
-        codes = self.served(office, box(1), box(2), box(3))
+        codes = served(office, box(1), box(2), box(3))
         self.same([office.to_yard(codes[0], 3), office.to_yard(codes[1], 3)], [0, 1])
         self.reason(office, "place", office.to_yard, codes[2], 3)
 
     def test_a_box_that_is_moved_within_the_yard(self):
         office = terminal(slots=2, height=2)
-        codes = self.served(office, box(1), box(2), box(3, feet=40))
+        codes = served(office, box(1), box(2), box(3, feet=40))
         office.to_yard(codes[0], 0)
         office.to_yard(codes[1], 0)
         self.reason(office, "not available", office.to_yard, codes[0], 1)
@@ -110,7 +96,7 @@ class PlugsTest(BoxesCase):
 
     def test_to_reefers(self):
         office = terminal()
-        codes = self.served(office, *[box(number, reefer=(*REEFER[:4], number % 4)) for number in range(5)], box(5))
+        codes = served(office, *[box(number, reefer=(*REEFER[:4], number % 4)) for number in range(5)], box(5))
         self.same(office.temperatures(), ())
         self.same([office.to_reefers(text) for text in codes[3::-1]], [1, 2, 3, 4])
         self.same(office.temperatures(), tuple((code(number), number) for number in (3, 2, 1, 0)))
@@ -126,7 +112,7 @@ class PlugsTest(BoxesCase):
 
     def test_a_box_from_the_yard(self):
         office = terminal()
-        codes = self.served(office, box(1, reefer=REEFER), box(2))
+        codes = served(office, box(1, reefer=REEFER), box(2))
         office.to_yard(codes[0], 1)
         self.same(office.to_reefers(codes[0]), 1)
         self.same(office.to_yard(codes[1], 1), 0)
@@ -134,7 +120,7 @@ class PlugsTest(BoxesCase):
     def test_not_available(self):
         office = terminal()
         office.add_ship(ship([box(9, reefer=REEFER)], [0]))
-        codes = self.served(office, box(1, reefer=REEFER), box(2))
+        codes = served(office, box(1, reefer=REEFER), box(2))
         office.to_yard(codes[0], 0)
         office.to_yard(codes[1], 0)
         for text in (code(9), codes[0]):
@@ -145,7 +131,7 @@ class PlugsTest(BoxesCase):
     def test_plan(self):
         office = terminal(plugs=1)
         self.reason(office, "empty", office.plan_reefers)
-        codes = self.served(office, box(1, reefer=REEFER), box(2, reefer=REEFER))
+        codes = served(office, box(1, reefer=REEFER), box(2, reefer=REEFER))
         self.reason(office, "empty", office.plan_reefers)
         for text in codes:
             office.to_reefers(text)
@@ -160,7 +146,7 @@ class PlugsTest(BoxesCase):
     def test_the_order_of_the_boxes(self):
         office = terminal(plugs=1)
         rows = [(1, 1, 0, 2, 1), (2, 4, 0, 5, 4)]
-        codes = self.served(office, *[box(number, reefer=row) for number, row in enumerate(rows)])
+        codes = served(office, *[box(number, reefer=row) for number, row in enumerate(rows)])
         for text in codes[::-1]:
             office.to_reefers(text)
         self.same(office.plan_reefers(), shortest_cycle(rows[::-1], 1))
@@ -170,7 +156,7 @@ class PlugsTest(BoxesCase):
         for plugs in (0, 1, 2):
             office = terminal(plugs=plugs)
             rows = [(1, 1, 0, 1, 0), (1, 1, 0, 1, 0), (1, 1, 0, 1, 1)]
-            for text in self.served(office, *[box(number, reefer=row) for number, row in enumerate(rows)]):
+            for text in served(office, *[box(number, reefer=row) for number, row in enumerate(rows)]):
                 office.to_reefers(text)
             wanted = shortest_cycle(rows, plugs)
             if wanted is None:
@@ -181,7 +167,7 @@ class PlugsTest(BoxesCase):
 
     def test_too_many_states_ahead_of_no_cycle(self):
         office = terminal(plugs=0)
-        codes = self.served(office, box(1, reefer=(1, 1, 0, 199, 0)), box(2, reefer=(1, 1, 0, 0, 0)), box(3, reefer=REEFER))
+        codes = served(office, box(1, reefer=(1, 1, 0, 199, 0)), box(2, reefer=(1, 1, 0, 0, 0)), box(3, reefer=REEFER))
         office.to_reefers(codes[0])
         office.to_reefers(codes[1])
         self.reason(office, "no cycle", office.plan_reefers)
@@ -190,7 +176,7 @@ class PlugsTest(BoxesCase):
 
     def test_the_plan_is_dropped(self):
         office = terminal(plugs=1)
-        codes = self.served(office, *[box(number, reefer=REEFER) for number in range(4)])
+        codes = served(office, *[box(number, reefer=REEFER) for number in range(4)])
         self.same(office.next_hour(), ())
         office.to_reefers(codes[0])
         self.reason(office, "no plan", office.next_hour)
@@ -214,7 +200,7 @@ class PlugsTest(BoxesCase):
 
     def test_a_new_plan_begins_anew(self):
         office = terminal(plugs=1)
-        codes = self.served(office, box(1, reefer=(1, 1, 0, 3, 3)), box(2, reefer=REEFER))
+        codes = served(office, box(1, reefer=(1, 1, 0, 3, 3)), box(2, reefer=REEFER))
         office.to_reefers(codes[0])
         self.same(office.plan_reefers(), ((), ((0,), ())))
         office.next_hour()
@@ -226,7 +212,7 @@ class PlugsTest(BoxesCase):
 
     def test_other_boxes_do_not_drop_the_plan(self):
         office = terminal(plugs=1)
-        codes = self.served(office, box(1, reefer=REEFER), box(2, reefer=REEFER), box(3))
+        codes = served(office, box(1, reefer=REEFER), box(2, reefer=REEFER), box(3))
         office.to_reefers(codes[0])
         office.plan_reefers()
         office.to_yard(codes[1], 0)
@@ -237,7 +223,7 @@ class PlugsTest(BoxesCase):
     def test_containers_are_not_changed(self):
         office = terminal()
         container = box(1, reefer=REEFER)
-        self.served(office, container)
+        served(office, container)
         office.to_reefers(container.code)
         office.plan_reefers()
         office.next_hour()
@@ -278,7 +264,7 @@ class TimeTest(BoxesCase):
 
     def test_no_plan_ahead_of_past(self):
         office = terminal(quotas=(9,))
-        codes = self.served(office, box(1, reefer=REEFER))
+        codes = served(office, box(1, reefer=REEFER))
         office.to_reefers(codes[0])
         self.reason(office, "no plan", office.next_hour)
         office.plan_reefers()
@@ -403,7 +389,7 @@ class TrucksTest(BoxesCase):
 
     def test_release(self):
         office = terminal()
-        codes = self.served(office, box(1), box(2), box(3, weight=7))
+        codes = served(office, box(1), box(2), box(3, weight=7))
         for number, weight in ((1, 10), (2, 10), (3, 7)):
             freed(office, number, weight)
         hour = office.now() // 60
@@ -456,7 +442,7 @@ class TrucksTest(BoxesCase):
         messages = [("arrive", 1, 5, code(1), 999, "entry"), ("move", 2, 6, code(1), 999, "entry", "free"),
                     ("arrive", 3, 7, code(1), 2, "entry"), ("move", 4, 8, code(1), 2, "entry", "free")]
         office = terminal()
-        self.served(office, box(1))
+        served(office, box(1))
         truck = office.book(1, 1)
         office.next_hour()
         for message in messages:
@@ -470,7 +456,7 @@ class TrucksTest(BoxesCase):
 
     def test_kilos_of_another_item_or_state(self):
         office = terminal(free="bond")
-        self.served(office, box(1), box(2))
+        served(office, box(1), box(2))
         truck = office.book(1, 1)
         office.next_hour()
         freed(office, 1)
@@ -482,7 +468,7 @@ class TrucksTest(BoxesCase):
 
     def test_irregular(self):
         office = terminal()
-        codes = self.served(office, *[box(number) for number in (1, 2, 3)])
+        codes = served(office, *[box(number) for number in (1, 2, 3)])
         for number in (1, 2, 3):
             freed(office, number)
         trucks = [office.book(1, 1) for _ in range(3)]
@@ -509,7 +495,7 @@ class DutyTest(BoxesCase):
         self.same(office.duty_owed(), (0, 1))
         # 8 / 100 of 51, and half of 700 kilos; box 3 came by truck.
         self.discharged(office, own(1, value=51, reefer=REEFER), own(2, formula=1, weight=7))
-        self.served(office, box(3, value=1000))
+        served(office, box(3, value=1000))
         self.same(office.duty_owed(), (8852, 25))
         office.to_yard(code(2), 0)
         office.to_reefers(code(1))

@@ -2,7 +2,7 @@
 
 import itertools
 
-from office import HULL, box, code, questions, reason_of, ship, terminal
+from office import HULL, box, code, own, questions, reason_of, served, ship, terminal
 from quaybest.lashing import BadRods, BadStack, Gear
 from quaybest.quays import Quay
 from quaybest.refusals import Refused
@@ -17,21 +17,6 @@ SMALL = Hull((1000, 0, 0, 10), ((2, 1000, 200), (40, 1100, 200)), ((300, 0, 0, 1
 # One whose trim is a tenth of what is at 100, less what is at -100, for the most part; it may be 1.
 LONG = Hull((1000, 0, 0, 10), ((2, 1000, 200), (40, 9000, 200)), ((30, 100, 0, 1, 0), (30, -100, 0, 1, 0), (30, 0, 0, 1, 0)),
             height=1, heel=1000, trim=1)
-
-
-def own(number, **more):
-    """A box whose journey ends in port 3."""
-    return box(number, ports=(1, 3), **more)
-
-
-def served(office, *boxes):
-    """Let trucks bring boxes; return their codes."""
-    hour = office.now() // 60
-    trucks = [office.book(hour, hour) for _ in boxes]
-    office.next_hour()
-    for truck, container in zip(trucks, boxes):
-        office.receive(truck, container)
-    return [container.code for container in boxes]
 
 
 class ShipsCase(Case):
